@@ -710,6 +710,26 @@ func spoil[T any](list []T, by T) {
 	}
 }
 
+// checkApart writes over rows and what is behind them, from the first one on and from the last one on, and no row may change another one.
+func checkApart(t *testing.T, rows [][]int) {
+	t.Helper()
+	var order []int
+	for i := range rows {
+		order = append(order, i)
+	}
+	for range 2 {
+		for _, i := range order {
+			spoil(rows[i], 1000+i)
+		}
+		for i, row := range rows {
+			if slices.ContainsFunc(row, func(n int) bool { return n != 1000+i }) {
+				t.Errorf("rows are one: %v", rows)
+			}
+		}
+		slices.Reverse(order)
+	}
+}
+
 // Programs that are given stay as they are, and what is returned is new each time, and each row of it.
 func TestFlowOfItsOwn(t *testing.T) {
 	for _, s := range []string{"set r0 1/bz r0 4/set r1 2/jmp 1/st r1 r0 0/hlt/set r2 3", "st r0 r0 0/bz r0 0/hlt", "jmp 2/bz r0 0/jmp 1", "jmp 0"} {
@@ -724,14 +744,7 @@ func TestFlowOfItsOwn(t *testing.T) {
 		spoil(f.dropped, impl.Instr{Op: "x"})
 		spoil(f.shrunk, impl.Instr{Op: "x"})
 		for _, rows := range [][][]int{f.next, f.loops, f.blocks} {
-			for i, row := range rows {
-				spoil(row, 1000+i)
-			}
-			for i, row := range rows {
-				if slices.ContainsFunc(row, func(n int) bool { return n != 1000+i }) {
-					t.Errorf("rows of %q are one: %v", s, rows)
-				}
-			}
+			checkApart(t, rows)
 		}
 		if !sameCode(code, before) {
 			t.Errorf("the program that was given is now %v", code)

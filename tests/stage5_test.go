@@ -670,14 +670,7 @@ func TestBetterOfItsOwn(t *testing.T) {
 		given := code[:len(code)-1]
 		before := slices.Clone(code)
 		b := betterOf(given)
-		for i, row := range b.known {
-			spoil(row, 1000+i)
-		}
-		for i, row := range b.known {
-			if slices.ContainsFunc(row, func(n int) bool { return n != 1000+i }) {
-				t.Errorf("rows of %q are one: %v", s, b.known)
-			}
-		}
+		checkApart(t, b.known)
 		spoil(b.known, nil)
 		for i, made := range [][]impl.Instr{b.folded, b.skipped, b.best} {
 			spoil(made, impl.Instr{Op: "x", K: i})
