@@ -36,7 +36,7 @@ func namesBy(c impl.Instr) (string, string) {
 }
 
 func ticksBy(c impl.Instr) int {
-	return map[string]int{"set": 1, "add": 1, "sub": 1, "mul": 2, "lt": 1, "ld": 3, "st": 1}[c.Op]
+	return map[string]int{"set": 1, "add": 1, "sub": 1, "mul": 2, "lt": 1, "ld": 3, "st": 1, "bz": 1, "jmp": 1}[c.Op]
 }
 
 // waitBy asks one thing behind the other, as the document has them.
